@@ -2,7 +2,7 @@
 
 import unittest
 
-from throwntogether.fraction import told_fraction, told_fractions
+from throwntogether.fraction import least_multiple, told_fraction, told_fractions
 
 
 class FractionTest(unittest.TestCase):
@@ -27,6 +27,12 @@ class FractionTest(unittest.TestCase):
     def test_one_behind_another(self):
         self.assertEqual(told_fractions([2, 0, 4, 3], 4), [1, 2, 0, 1, 1, 1, 3, 4])
         self.assertEqual(told_fractions([], 4), [])
+
+    def test_least_multiple(self):
+        self.assertEqual(least_multiple([4, 6, 10]), 60)
+        self.assertEqual(least_multiple([7]), 7)
+        self.assertEqual(least_multiple([5, 5, 1]), 5)
+        self.assertEqual(least_multiple([]), 1)
 
 
 if __name__ == "__main__":

@@ -4,10 +4,8 @@ import itertools
 import unittest
 from fractions import Fraction
 
-from helper import HIGHEST, LOWEST, apart, ask, begin, chances, distance, fractions_of, last, lists_of, plan, spread
-from helper import tested, told, two_spreads, whole_plans
-
-NO_SLOTS = (-1, 4, LOWEST, HIGHEST)
+from helper import HIGHEST, LOWEST, NO_SLOTS, apart, ask, begin, chances, distance, everything, fractions_of, last
+from helper import lists_of, plan, spread, tested, told, two_spreads, whole_plans
 
 # Spreads of six points: none in common, much in common, ends of the range of weights, sums without a common divisor.
 SIX = (
@@ -259,8 +257,7 @@ class NothingChangesTest(unittest.TestCase):
     def test_asking_and_refusing_leave_the_spreads(self):
         questions = [apart(0, 1), plan(0, 1), tested(0, 1, 6, [2, 1, 0, 3]), tested(0, 1, 6, [0, 0, 0, 0]),
                      apart(0, 4), plan(-1, 0), tested(0, 1, 0, []), tested(4, 1, 0, []), told(1)]
-        everything = [told(0), told(1), told(2), told(3)]
-        found = ask(*two_spreads([1, 1], [1, 2]), *everything, *questions, *everything, *questions)
+        found = ask(*two_spreads([1, 1], [1, 2]), *everything(), *questions, *everything(), *questions)
         self.assertEqual(found[3:7], [[2, 1, 2, 1, 2], [2, 1, 3, 2, 3], [2, 1, 1, 0, 1], [2, 1, 1, 0, 1]])
         self.assertEqual(found[7:16], [[1, 1, 6], [4, 1, 3, 1, 6, 0, 1, 1, 2, 1, 6], [1, 1, 6], [0],
                                        [-2], [-2], [-22], [-2], [2, 1, 3, 2, 3]])

@@ -2,10 +2,15 @@
 
 import unittest
 
-from helper import HIGHEST, LOWEST, apart, ask, begin, last, plan, spread, tested, told
+from helper import HIGHEST, LOWEST, NO_SLOTS, apart, ask, begin, behind, everything, give, image, in_set, last, mix
+from helper import plan, same, spread, tested, told
 from throwntogether.ground import answers
 
-NO_SLOTS = (-1, 4, LOWEST, HIGHEST)
+
+def each_but_begin(k, row):
+    """One of each call but begin, with that number for each of its slots, and that row."""
+    return [spread(k, row), told(k), apart(k, k), plan(k, k), tested(k, k, 1, row), behind(k, k, k), image(k, k, row),
+            mix(k, k, k, 1, 1), same(k, k), in_set(k, 1), give(k, k)]
 
 
 class BeginTest(unittest.TestCase):
@@ -34,22 +39,34 @@ class BeginTest(unittest.TestCase):
 
 class NotBegunTest(unittest.TestCase):
     def test_all_but_begin_before_a_begin(self):
-        calls = [spread(0, [1]), told(0), apart(0, 1), plan(0, 1), tested(0, 1, 1, [1])]
-        self.assertEqual(ask(*calls), [[-11]] * 5)
+        calls = each_but_begin(0, [1])
+        self.assertEqual(ask(*calls), [[-11]] * 11)
         self.assertEqual(ask(*calls, begin(1), *calls),
-                         [[-11]] * 5 + [[0], [0], [1, 1, 1], [0, 0, 1], [1, 1, 1, 0, 1], [1, 0, 1]])
+                         [[-11]] * 11 + [[0], [0], [1, 1, 1], [0, 0, 1], [1, 1, 1, 0, 1], [1, 0, 1], [1, 1, 1, 0, 1],
+                                         [-22], [0], [1], [0, 1, 1], [0]])
 
     def test_a_refused_begin_is_none(self):
         self.assertEqual(ask(begin(0), told(0), begin(7), told(0), begin(1), told(0)),
                          [[-22], [-11], [-22], [-11], [0], [1, 1, 1]])
 
+    def test_all_after_a_refused_begin(self):
+        for n in (0, 7, LOWEST, HIGHEST):
+            self.assertEqual(ask(begin(n), *each_but_begin(0, [0])), [[-22]] + [[-11]] * 11)
+
     def test_ahead_of_all_other_refusals(self):
         for k in NO_SLOTS:
-            self.assertEqual(ask(spread(k, []), told(k), apart(k, k), plan(k, k), tested(k, k, 0, [])), [[-11]] * 5)
+            self.assertEqual(ask(*each_but_begin(k, [])), [[-11]] * 11)
+        self.assertEqual(ask(spread(0, []), tested(0, 0, 0, []), image(0, 0, []), mix(0, 0, 0, 1, 0), in_set(0, -1)),
+                         [[-11]] * 5)
 
-    def test_the_calls_of_later_stages_are_read_too(self):
-        later = [[6, 0, 1, 2], [7, 0, 1, 2, 0, 0], [7, 0, 1, 0], [8, 0, 1, 2, 1, 2], [9, 0, 1], [10, 0, 1], [11, 0, 1]]
-        self.assertEqual(ask(*later, begin(1), told(0)), [[-11]] * 7 + [[0], [1, 1, 1]])
+
+class NoSlotTest(unittest.TestCase):
+    def test_all_but_begin_and_nothing_changes(self):
+        for k in NO_SLOTS:
+            calls = [begin(2), spread(0, [1, 2]), spread(1, [1, 3]), spread(2, [1, 4]), spread(3, [1, 5])]
+            found = ask(*calls, *each_but_begin(k, [1, 0]), *everything())[5:]
+            self.assertEqual(found[:11], [[-2]] * 11)
+            self.assertEqual(found[11:], [[2, 1, 3, 2, 3], [2, 1, 4, 3, 4], [2, 1, 5, 4, 5], [2, 1, 6, 5, 6]])
 
 
 class SpreadTest(unittest.TestCase):
@@ -132,6 +149,8 @@ class ListTest(unittest.TestCase):
     def test_what_is_handed_in_is_not_changed(self):
         line = begin(2) + spread(0, [2, 4]) + spread(1, [4, 2]) + told(0) + apart(0, 1) + plan(0, 1)
         line = line + tested(0, 1, 3, [1, 0, 1, 1]) + spread(0, [1]) + tested(0, 1, 0, []) + begin(7) + told(4)
+        line = line + behind(0, 1, 2) + image(0, 2, [1, 0]) + image(0, 2, [2, 0]) + mix(0, 1, 3, 1, 3) + same(0, 3)
+        line = line + in_set(3, 2) + in_set(3, 4) + give(0, 1) + told(0) + told(1) + told(2) + told(3)
         before = list(line)
         answers(line)
         self.assertEqual(line, before)
@@ -144,7 +163,8 @@ class ListTest(unittest.TestCase):
             append = clear = extend = insert = pop = remove = reverse = sort = refuse
             __setitem__ = __delitem__ = __iadd__ = __imul__ = refuse
 
-        line = begin(2) + spread(0, [2, 4]) + plan(0, 1) + tested(0, 1, 3, [1, 0, 2, 0])
+        line = begin(2) + spread(0, [2, 4]) + plan(0, 1) + tested(0, 1, 3, [1, 0, 2, 0]) + behind(0, 1, 0)
+        line = line + image(0, 0, [1, 0]) + mix(0, 1, 2, 3, 4) + same(0, 2) + in_set(2, 3) + give(2, 1) + told(1)
         self.assertEqual(answers(OnlyRead(line)), answers(line))
 
     def test_sixty_calls(self):
@@ -154,15 +174,18 @@ class ListTest(unittest.TestCase):
 
     def test_sixty_calls_with_the_longest_rows(self):
         row = [LOWEST, HIGHEST] * 35
-        line = begin(6) + tested(0, 1, HIGHEST, row) * 30 + spread(0, row) * 29
+        line = begin(6) + tested(0, 1, HIGHEST, row) * 30 + spread(0, row) * 15 + image(0, 1, row) * 14
         self.assertEqual(answers(line), [1, 0] + [1, -22] * 59)
 
     def test_rows_of_none(self):
-        self.assertEqual(ask(begin(1), spread(0, []), tested(0, 0, 1, []), told(0)), [[0], [-22], [-22], [1, 1, 1]])
+        self.assertEqual(ask(begin(1), spread(0, []), tested(0, 0, 1, []), image(0, 0, []), told(0)),
+                         [[0], [-22], [-22], [-22], [1, 1, 1]])
 
     def test_numbers_are_whole_numbers_alone(self):
         line = begin(2) + spread(0, [1, 1]) + told(0) + apart(0, 1) + plan(0, 1)
         line = line + tested(0, 1, 2, [1, 0, 1, 0]) + tested(0, 1, 2, [0, 0, 0, 0]) + told(9)
+        line = line + behind(0, 1, 0) + image(0, 2, [1, 0]) + mix(0, 2, 3, 1, 2) + same(0, 3) + same(1, 3)
+        line = line + in_set(3, 0) + in_set(3, 3) + give(3, 0)
         found = answers(line)
         self.assertIs(type(found), list)
         self.assertEqual({type(number) for number in found}, {int})

@@ -10,6 +10,14 @@ def greatest_in_common(first, second):
     return first
 
 
+def least_multiple(numbers):
+    """The least number that each of these, all 1 or more, divides."""
+    multiple = 1
+    for number in numbers:
+        multiple = multiple // greatest_in_common(multiple, number) * number
+    return multiple
+
+
 def told_fraction(upper, lower):
     """The two numbers that tell upper by lower; lower is 1 or more."""
     common = greatest_in_common(upper, lower)

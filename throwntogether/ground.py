@@ -1,21 +1,20 @@
 """A ground with its slots, and the answers to a list of calls on it."""
 
 from throwntogether.fraction import told_fraction, told_fractions
-from throwntogether.plans import Pair, best_plan, differing, in_one_row, in_rows, is_plan, set_number, surplus
+from throwntogether.plans import Behind, Pair, best_plan, differing, in_one_row, in_rows, is_plan, set_number, surplus
+from throwntogether.spreads import greatest_lower, image, least_weights, mixture, weight_in_set
 
 NO_SLOT = -2
 NOT_BEGUN = -11
 WRONG_NUMBERS = -22
+TOO_FINE = -75
 
 SLOT_COUNT = 4
 MOST_POINTS = 6
 MOST_WEIGHT = 20
+MOST_PARTS = 20
 
 BEGIN = 0
-
-
-class NotBuilt(Exception):
-    """A call that the program can read but doesn't answer yet."""
 
 
 class Ground:
@@ -30,6 +29,12 @@ class Ground:
 def pair_of_slots(ground, numbers):
     """The spreads of the two slots that a call names first."""
     return Pair(ground.weights[numbers[0]], ground.weights[numbers[1]])
+
+
+def told_plan(rows, lower):
+    """How a plan is told, each number by lower: how many there are, these, and how often it differs."""
+    cells = in_one_row(rows)
+    return [len(cells)] + told_fractions(cells + [differing(rows)], lower)
 
 
 def answer_begin(ground, numbers, row):
@@ -47,7 +52,7 @@ def answer_spread(ground, numbers, row):
     fitting = [weight for weight in row if 0 <= weight <= MOST_WEIGHT]
     if len(row) != ground.points or len(fitting) != ground.points or sum(row) == 0:
         return [WRONG_NUMBERS]
-    ground.weights[numbers[0]] = fitting
+    ground.weights[numbers[0]] = least_weights(fitting)
     return [0]
 
 
@@ -67,9 +72,7 @@ def answer_apart(ground, numbers, row):
 def answer_plan(ground, numbers, row):
     """The best plan of two spreads, and how often it differs."""
     pair = pair_of_slots(ground, numbers)
-    plan = best_plan(pair)
-    cells = in_one_row(plan)
-    return [len(cells)] + told_fractions(cells + [differing(plan)], pair.total)
+    return told_plan(best_plan(pair), pair.total)
 
 
 def answer_test(ground, numbers, row):
@@ -83,8 +86,56 @@ def answer_test(ground, numbers, row):
     return [1] + told_fraction(differing(plan), lower)
 
 
+def answer_behind(ground, numbers, row):
+    """The best plan of two spreads with that of the second one and a third one behind it."""
+    behind = Behind(ground.weights[numbers[0]], ground.weights[numbers[1]], ground.weights[numbers[2]])
+    return told_plan(behind.rows, behind.total)
+
+
+def answer_image(ground, numbers, row):
+    """Put what comes of a spread, each point going to another one, into a slot."""
+    fitting = [point for point in row if 0 <= point < ground.points]
+    if len(row) != ground.points or len(fitting) != ground.points:
+        return [WRONG_NUMBERS]
+    ground.weights[numbers[1]] = image(ground.weights[numbers[0]], fitting)
+    return [0]
+
+
+def answer_mix(ground, numbers, row):
+    """Put a mixture of two spreads into a slot."""
+    part = numbers[3]
+    whole = numbers[4]
+    if whole < 1 or whole > MOST_PARTS or part < 0 or part > whole:
+        return [WRONG_NUMBERS]
+    mixed = mixture(pair_of_slots(ground, numbers), part, whole)
+    if greatest_lower(mixed) >= 10 ** 30:
+        return [TOO_FINE]
+    ground.weights[numbers[2]] = mixed
+    return [0]
+
+
+def answer_same(ground, numbers, row):
+    """Whether two slots have the same spread."""
+    pair = pair_of_slots(ground, numbers)
+    return [1 if pair.first == pair.second else 0]
+
+
+def answer_set(ground, numbers, row):
+    """How likely a spread comes in a set of points."""
+    number = numbers[1]
+    if number < 0 or number >= 1 << ground.points:
+        return [WRONG_NUMBERS]
+    weights = ground.weights[numbers[0]]
+    return [0] + told_fraction(weight_in_set(weights, number), sum(weights))
+
+
+def answer_give(ground, numbers, row):
+    """Put one slot's spread into another one, too."""
+    ground.weights[numbers[1]] = list(ground.weights[numbers[0]])
+    return [0]
+
+
 # For each call, by its number: how many slots it names, how many whole numbers follow them, how many rows follow these.
-# All twelve stand here, as each is to be read, and refused before a begin, whether it's built or not.
 FORMS = (
     (0, 1, 0),
     (1, 0, 1),
@@ -100,7 +151,20 @@ FORMS = (
     (2, 0, 0),
 )
 
-ANSWERING = (answer_begin, answer_spread, answer_told, answer_apart, answer_plan, answer_test)
+ANSWERING = (
+    answer_begin,
+    answer_spread,
+    answer_told,
+    answer_apart,
+    answer_plan,
+    answer_test,
+    answer_behind,
+    answer_image,
+    answer_mix,
+    answer_same,
+    answer_set,
+    answer_give,
+)
 
 
 def answer_call(ground, call, numbers, row):
@@ -110,8 +174,6 @@ def answer_call(ground, call, numbers, row):
     slots = numbers[:FORMS[call][0]]
     if any([slot < 0 or slot >= SLOT_COUNT for slot in slots]):
         return [NO_SLOT]
-    if call >= len(ANSWERING):
-        raise NotBuilt(f"call {call} is not built yet")
     answering = ANSWERING[call]
     return answering(ground, numbers, row)
 

@@ -3,6 +3,8 @@
 A spread is a list of weights, a point's chance being its weight by their sum.
 """
 
+from throwntogether.fraction import least_multiple
+
 
 def times(numbers, factor):
     """Each number times the factor."""
@@ -84,3 +86,36 @@ def is_plan(plan, lower, pair):
     if times(row_sums, pair.total) != times(pair.first, lower):
         return False
     return times(column_sums, pair.total) == times(pair.second, lower)
+
+
+def factors_behind(between, multiple):
+    """For each point between, what makes up for its weight, as multiple by that; 0 for a point without chance."""
+    return [multiple // weight if weight > 0 else 0 for weight in between]
+
+
+def rows_behind(front, back, factors):
+    """The rows of the plan back behind the plan front, each way over a point between times that point's factor."""
+    rows = []
+    for front_row in front:
+        ways = [amount * factor for amount, factor in zip(front_row, factors)]
+        row = [0] * len(front_row)
+        for way, back_row in zip(ways, back):
+            row = [had + way * amount for had, amount in zip(row, back_row)]
+        rows.append(row)
+    return rows
+
+
+class Behind:
+    """The best plan of a first spread and one between, and behind it that of the one between and a third one.
+
+    It is kept as rows, each number by the total.
+    """
+
+    def __init__(self, first, between, third):
+        front = best_plan(Pair(first, between))
+        back = best_plan(Pair(between, third))
+        # To divide by the chances between and stay with whole numbers, all is by a number that their weights divide.
+        multiple = least_multiple([weight for weight in between if weight > 0])
+        self.rows = rows_behind(front, back, factors_behind(between, multiple))
+        # Both plans are by the sum between, the chance between is too: so that sum is left once.
+        self.total = sum(first) * sum(between) * sum(third) * multiple
