@@ -1,11 +1,12 @@
-"""All twelve calls together, in many orders, held against the document's words."""
+"""All twelve calls together: in many orders, held against the document's words, and what holds of several of them."""
 
 import collections
+import itertools
 import random
 import unittest
 
-from helper import HIGHEST, LOWEST, apart, ask, begin, behind, by_the_words, give, image, in_set, mix, plan, same
-from helper import spread, tested, told
+from helper import HIGHEST, LOWEST, apart, ask, begin, behind, by_the_words, fractions_of, give, image, in_set, lists_of
+from helper import mix, plan, same, spread, tested, told, two_spreads, whole_plans
 
 LINES = 400
 
@@ -96,6 +97,40 @@ class TogetherTest(unittest.TestCase):
             calls = Chooser(seed).line()
             kept = [(call, answer) for call, answer in zip(calls, ask(*calls)) if answer[0] >= 0]
             self.assertEqual(ask(*[call for call, answer in kept]), [answer for call, answer in kept])
+
+
+def chances_of_sets(first, second):
+    """For both spreads, how likely each comes in each set, by the calls."""
+    sets = range(2 ** len(first))
+    found = ask(*two_spreads(first, second), *[in_set(k, s) for k in (0, 1) for s in sets])[3:]
+    chances = [fractions_of(answer[1:])[0] for answer in found]
+    return chances[:len(sets)], chances[len(sets):]
+
+
+def pairs_of_plans(first, second):
+    """For each plan in whole numbers that the call test takes, the pairs that get something, as bits, row by row."""
+    plans = whole_plans(first, second)
+    found = ask(*two_spreads(first, second), *[tested(0, 1, sum(first), numbers) for numbers in plans])[3:]
+    return [sum(2 ** place for place, number in enumerate(numbers) if number > 0)
+            for numbers, answer in zip(plans, found) if answer[0] == 1]
+
+
+def reached(pairs, s, n):
+    """The set of points to which some of the set s may go."""
+    return sum(2 ** j for j in range(n) if any(s >> i & 1 and pairs >> (i * n + j) & 1 for i in range(n)))
+
+
+class PairsThatMayBeTest(unittest.TestCase):
+    def test_they_have_a_plan_just_if_no_set_has_more_than_it_may_go_to(self):
+        for n, total in ((1, 1), (2, 3), (3, 2)):
+            goes = [[reached(pairs, s, n) for s in range(2 ** n)] for pairs in range(2 ** (n * n))]
+            for first, second in itertools.product(lists_of(n, total), repeat=2):
+                ones, others = chances_of_sets(first, second)
+                supports = pairs_of_plans(first, second)
+                for pairs in range(2 ** (n * n)):
+                    has_plan = any(support & ~pairs == 0 for support in supports)
+                    has_room = all(ones[s] <= others[goes[pairs][s]] for s in range(2 ** n))
+                    self.assertEqual(has_plan, has_room, (first, second, pairs))
 
 
 if __name__ == "__main__":
